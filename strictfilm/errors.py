@@ -1,0 +1,5 @@
+"""The refusals, one error each."""
+
+
+class NotRight(Exception):
+    """The file breaks a rule of the form."""
