@@ -16,12 +16,12 @@ LONGEST_TRACK_NUMBER = 2
 TIME_OFFSET_SIZE = 2
 
 
-def count_cluster_frames(file, cluster, track_numbers):
+def count_cluster_frames(file, cluster, tracks):
     contents = Contents(file, cluster)
     contents.number_once(TIME, 0, LATEST_TIME)
     holders = contents.all_named((SIMPLE_BLOCK, BLOCK_GROUP))
     check_before(contents.once(TIME), holders)
-    return sum([count_block_frames(file, block_in(file, holder), track_numbers) for holder in holders])
+    return sum([count_block_frames(file, block_in(file, holder), tracks) for holder in holders])
 
 
 def block_in(file, holder):
@@ -30,9 +30,9 @@ def block_in(file, holder):
     return holder
 
 
-def count_block_frames(file, block, track_numbers):
+def count_block_frames(file, block, tracks):
     cursor = Cursor(file, block.start, block.end)
-    if cursor.take_known_number(LONGEST_TRACK_NUMBER).value not in track_numbers:
+    if cursor.take_known_number(LONGEST_TRACK_NUMBER).value not in tracks:
         raise NotRight()
     cursor.skip(TIME_OFFSET_SIZE)
     return len(take_frame_lengths(cursor, cursor.take_byte()))

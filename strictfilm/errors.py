@@ -1,4 +1,4 @@
-"""The refusals, one error each."""
+"""The error that is raised while a file is read."""
 
 
 class NotRight(Exception):

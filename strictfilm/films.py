@@ -3,13 +3,44 @@
 from strictfilm.errors import NotRight
 from strictfilm.reader import read_film
 
-REFUSED_FILE = -1
+FILE_NOT_RIGHT = -1
+NOT_THERE = -2
+TOO_LONG = -3
 
 
 def look(file):
     """How many tracks, the scale, how many clusters, how many frames, behind a 0."""
+    film = film_or_none(file)
+    if film is None:
+        return [FILE_NOT_RIGHT]
+    return [0, len(film.tracks), film.scale, len(film.cluster_frames), sum(film.cluster_frames)]
+
+
+def track(k, most, file):
+    """The k-th track, from 0: six numbers and its codec's name."""
+    film = film_or_none(file)
+    if film is None:
+        return [FILE_NOT_RIGHT]
+    if k < 0 or k >= len(film.tracks):
+        return [NOT_THERE]
+    found = list(film.tracks.values())[k]
+    picture = found.picture
+    numbers = [
+        found.number, found.lasting_number, found.kind, picture.width, picture.height, found.channels,
+    ]
+    return tell(numbers, file[found.codec.start:found.codec.end], most)
+
+
+def film_or_none(file):
     try:
-        film = read_film(file)
+        return read_film(file)
     except NotRight:
-        return [REFUSED_FILE]
-    return [0, len(film.track_numbers), film.scale, len(film.cluster_frames), sum(film.cluster_frames)]
+        return None
+
+
+def tell(numbers, content, most):
+    """How many bytes of content there are, the numbers and the content, each behind how many they are."""
+    length = len(content)
+    if length > most:
+        return [TOO_LONG]
+    return [length, len(numbers)] + numbers + [length] + content

@@ -20,10 +20,10 @@ USUAL_SCALE = 1000000
 
 
 class Film:
-    """What a right file holds: its tracks' numbers, the scale, and how many frames each cluster has."""
+    """What a right file holds: its tracks by their numbers, the scale, and how many frames each cluster has."""
 
-    def __init__(self, track_numbers, scale, cluster_frames):
-        self.track_numbers = track_numbers
+    def __init__(self, tracks, scale, cluster_frames):
+        self.tracks = tracks
         self.scale = scale
         self.cluster_frames = cluster_frames
 
@@ -41,11 +41,10 @@ def read_film(file):
 def read_body(file, body):
     contents = Contents(file, body)
     scale = read_scale(file, contents.once(ABOUT))
-    tracks = contents.once(TRACKS)
     clusters = contents.all_named((CLUSTER,))
-    check_before(tracks, clusters)
-    numbers = read_tracks(file, tracks)
-    return Film(numbers, scale, [count_cluster_frames(file, cluster, numbers) for cluster in clusters])
+    check_before(contents.once(TRACKS), clusters)
+    tracks = read_tracks(file, contents.once(TRACKS))
+    return Film(tracks, scale, [count_cluster_frames(file, cluster, tracks) for cluster in clusters])
 
 
 def read_scale(file, about):

@@ -18,28 +18,51 @@ CHANNELS = 0x9F
 LONGEST_CODEC = 64
 
 
+class Picture:
+    """How wide and how high the pictures of a track are."""
+
+    def __init__(self, width, height):
+        self.width = width
+        self.height = height
+
+
+class Track:
+    """What is told of a track; the codec is the element that holds its name."""
+
+    def __init__(self, number, lasting_number, kind, picture, channels, codec):
+        self.number = number
+        self.lasting_number = lasting_number
+        self.kind = kind
+        self.picture = picture
+        self.channels = channels
+        self.codec = codec
+
+
 def read_tracks(file, element):
-    """The tracks' numbers, in the file's order, as the keys of a dict."""
-    numbers = {}
-    for track in Contents(file, element).all_named((TRACK,)):
-        number = read_track(file, track)
-        if number in numbers:
+    """The tracks by their numbers, in the file's order."""
+    tracks = {}
+    for child in Contents(file, element).all_named((TRACK,)):
+        track = read_track(file, child)
+        if track.number in tracks:
             raise NotRight()
-        numbers[number] = True
-    if not numbers:
+        tracks[track.number] = track
+    if not tracks:
         raise NotRight()
-    return numbers
+    return tracks
 
 
-def read_track(file, track):
-    """The track's number; whatever else the track must hold is checked."""
-    contents = Contents(file, track)
-    contents.number_once(LASTING_NUMBER, 1, GREATEST_NUMBER)
-    contents.number_once(KIND, 1, 255)
-    check_codec(file, contents.once(CODEC))
-    check_picture(file, contents.at_most_once(PICTURE))
-    check_sound(file, contents.at_most_once(SOUND))
-    return contents.number_once(NUMBER, 1, 255)
+def read_track(file, element):
+    contents = Contents(file, element)
+    codec = contents.once(CODEC)
+    check_codec(file, codec)
+    return Track(
+        contents.number_once(NUMBER, 1, 255),
+        contents.number_once(LASTING_NUMBER, 1, GREATEST_NUMBER),
+        contents.number_once(KIND, 1, 255),
+        read_picture(file, contents.at_most_once(PICTURE)),
+        read_channels(file, contents.at_most_once(SOUND)),
+        codec,
+    )
 
 
 def check_codec(file, codec):
@@ -51,15 +74,14 @@ def check_codec(file, codec):
             raise NotRight()
 
 
-def check_picture(file, picture):
-    if picture is None:
-        return
-    contents = Contents(file, picture)
-    contents.number_once(WIDTH, 1, 65535)
-    contents.number_once(HEIGHT, 1, 65535)
+def read_picture(file, element):
+    if element is None:
+        return Picture(0, 0)
+    contents = Contents(file, element)
+    return Picture(contents.number_once(WIDTH, 1, 65535), contents.number_once(HEIGHT, 1, 65535))
 
 
-def check_sound(file, sound):
+def read_channels(file, sound):
     if sound is None:
-        return
-    Contents(file, sound).number_or(CHANNELS, 1, 255, 1)
+        return 0
+    return Contents(file, sound).number_or(CHANNELS, 1, 255, 1)

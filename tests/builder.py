@@ -1,8 +1,10 @@
-"""Builds films byte by byte, right ones and wrong ones, and asks look about them."""
+"""Builds films byte by byte, right ones and wrong ones, and asks about them."""
 
 import unittest
 
-from strictfilm.films import look
+from strictfilm import films
+
+LEAST, GREATEST = -2 ** 31, 2 ** 31 - 1
 
 HEADER, BODY, ABOUT, TRACKS, CLUSTER = 0x1A45DFA3, 0x18538067, 0x1549A966, 0x1654AE6B, 0x1F43B675
 
@@ -110,6 +112,22 @@ def film_of_blocks(*blocks, tracks=None):
     return film(body_parts(cluster(*blocks), tracks))
 
 
+def plentiful():
+    """A right film of three tracks, three clusters and ten frames."""
+    picture = element(0xE0, number(0xB0, 320), number(0xBA, 200))
+    tracks = (
+        element(0xAE, track_parts(1).but(0xE0, picture).bytes())
+        + track(2)
+        + element(0xAE, track_parts(200).but(0x83, number(0x83, 2)).but(0xE1, element(0xE1)).bytes())
+    )
+    clusters = (
+        cluster(block(0, b"one"), group(2, b"\1\1", b"ab"), time=7)
+        + cluster(time=8)
+        + cluster(block(4, b"\3", b"abcd", track_number=200), block(6, b"\2\x81\xbf", b"abc", track_number=2), time=9)
+    )
+    return film(body_parts(clusters, tracks, number(0x2AD7B1, 1234567)))
+
+
 PARENTS = (HEADER, BODY, ABOUT, TRACKS, 0xAE, 0xE0, 0xE1, CLUSTER, 0xA0)
 
 
@@ -138,13 +156,15 @@ class FilmTest(unittest.TestCase):
 
     def right(self, file, *answer):
         """The file is right; look answers the numbers that are told, if any are."""
-        got = look(file)
+        got = films.look(file)
         self.assertEqual(got[0], 0)
         if answer:
             self.assertEqual(got, [0, *answer])
 
     def wrong(self, file):
-        self.assertEqual(look(file), [-1])
+        """The file is not right, for every call."""
+        self.assertEqual(films.look(file), [-1])
+        self.assertEqual(films.track(0, GREATEST, file), [-1])
 
     def frames(self, count, *blocks):
         self.right(film_of_blocks(*blocks), 1, 1000000, 1, count)

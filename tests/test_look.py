@@ -1,35 +1,11 @@
-"""What look answers, and what the interface says of every call."""
-
-import contextlib
-import io
+"""What look answers."""
 
 from strictfilm.films import look
 from tests.builder import (
-    BODY, HEADER, HEADER_PARTS, FilmTest, block, body_parts, cluster, element, film, group, number, raw_name, track,
-    unknown,
+    BODY, HEADER, HEADER_PARTS, FilmTest, block, body_parts, cluster, element, film, plentiful, raw_name, unknown,
 )
 
 LONGEST = 100000
-
-
-class Untouchable(list):
-    """A list that can't be changed, not for a while either."""
-
-    def refuse(self, *given, **named):
-        raise AssertionError("what is handed in is changed")
-
-    __setitem__ = __delitem__ = __iadd__ = __imul__ = refuse
-    append = extend = insert = pop = remove = clear = reverse = sort = refuse
-
-
-def plentiful():
-    tracks = track(1) + track(2) + track(200)
-    clusters = (
-        cluster(block(0, b"one"), group(2, b"\1\1", b"ab"), time=7)
-        + cluster(time=8)
-        + cluster(block(4, b"\3", b"abcd", track_number=200), block(6, b"\2\x81\xbf", b"abc", track_number=2), time=9)
-    )
-    return film(body_parts(clusters, tracks, number(0x2AD7B1, 1234567)))
 
 
 def fixed_to(length, *children):
@@ -63,43 +39,6 @@ class LookTest(FilmTest):
         for length in range(len(file)):
             with self.subTest(length=length):
                 self.wrong(file[:length])
-
-    def test_kinds(self):
-        for file in (plentiful(), film(), []):
-            answer = look(file)
-            self.assertIs(type(answer), list)
-            self.assertEqual([type(given) for given in answer], [int] * len(answer))
-
-    def test_argument_name(self):
-        self.assertEqual(look(file=film()), look(film()))
-
-
-class KeptTest(FilmTest):
-
-    def test_what_is_handed_in_stays(self):
-        for file in (plentiful(), plentiful()[:-1], film(), []):
-            self.assertEqual(look(Untouchable(file)), look(file))
-            handed = list(file)
-            look(handed)
-            self.assertEqual(handed, file)
-
-    def test_a_second_call_answers_as_the_first(self):
-        first, second, refused = plentiful(), film(), plentiful() + [0]
-        for file, answer in [(first, look(first)), (refused, [-1]), (second, look(second)), (first, look(first))] * 2:
-            self.assertEqual(look(file), answer)
-
-    def test_an_answer_changed_by_its_owner_changes_no_other(self):
-        look(plentiful()).append(5)
-        look([]).append(5)
-        self.assertEqual(look(plentiful()), [0, 3, 1234567, 3, 10])
-        self.assertEqual(look([]), [-1])
-
-    def test_nothing_is_printed(self):
-        said = io.StringIO()
-        with contextlib.redirect_stdout(said), contextlib.redirect_stderr(said):
-            look(plentiful())
-            look([])
-        self.assertEqual(said.getvalue(), "")
 
 
 class LongTest(FilmTest):
