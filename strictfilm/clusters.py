@@ -10,29 +10,57 @@ TIME = 0xE7
 SIMPLE_BLOCK = 0xA3
 BLOCK_GROUP = 0xA0
 GROUPED_BLOCK = 0xA1
+REFERENCE = 0xFB
 
 LATEST_TIME = 0x1000000000000
 LONGEST_TRACK_NUMBER = 2
-TIME_OFFSET_SIZE = 2
+KEY_BIT = 0x80
 
 
-def count_cluster_frames(file, cluster, tracks):
+class Block:
+    """A block: what its frames have in common, where the first begins, and the length of each."""
+
+    def __init__(self, track_number, time, is_key, start, lengths):
+        self.track_number = track_number
+        self.time = time
+        self.is_key = is_key
+        self.start = start
+        self.lengths = lengths
+
+
+def read_cluster(file, cluster, tracks):
+    """The blocks, in the file's order."""
     contents = Contents(file, cluster)
-    contents.number_once(TIME, 0, LATEST_TIME)
+    time = contents.number_once(TIME, 0, LATEST_TIME)
     holders = contents.all_named((SIMPLE_BLOCK, BLOCK_GROUP))
     check_before(contents.once(TIME), holders)
-    return sum([count_block_frames(file, block_in(file, holder), tracks) for holder in holders])
+    return [read_holder(file, holder, time, tracks) for holder in holders]
 
 
-def block_in(file, holder):
-    if holder.name == BLOCK_GROUP:
-        return Contents(file, holder).once(GROUPED_BLOCK)
-    return holder
+def read_holder(file, holder, cluster_time, tracks):
+    if holder.name == SIMPLE_BLOCK:
+        return read_block(file, holder, cluster_time, tracks, None)
+    contents = Contents(file, holder)
+    is_key = not contents.all_named((REFERENCE,))
+    return read_block(file, contents.once(GROUPED_BLOCK), cluster_time, tracks, is_key)
 
 
-def count_block_frames(file, block, tracks):
-    cursor = Cursor(file, block.start, block.end)
-    if cursor.take_known_number(LONGEST_TRACK_NUMBER).value not in tracks:
+def read_block(file, element, cluster_time, tracks, is_key):
+    """The block; if is_key is None, its flags tell whether it is key."""
+    cursor = Cursor(file, element.start, element.end)
+    track_number = cursor.take_known_number(LONGEST_TRACK_NUMBER).value
+    if track_number not in tracks:
         raise NotRight()
-    cursor.skip(TIME_OFFSET_SIZE)
-    return len(take_frame_lengths(cursor, cursor.take_byte()))
+    time = cluster_time + take_offset(cursor)
+    flags = cursor.take_byte()
+    if is_key is None:
+        is_key = flags & KEY_BIT != 0
+    lengths = take_frame_lengths(cursor, flags)
+    return Block(track_number, time, is_key, cursor.place, lengths)
+
+
+def take_offset(cursor):
+    """A number of two bytes with a sign."""
+    high = cursor.take_byte()
+    value = high * 256 + cursor.take_byte()
+    return value - 65536 if high >= 128 else value

@@ -13,7 +13,8 @@ def look(file):
     film = film_or_none(file)
     if film is None:
         return [FILE_NOT_RIGHT]
-    return [0, len(film.tracks), film.scale, len(film.cluster_frames), sum(film.cluster_frames)]
+    frames = sum([len(block.lengths) for block in film.blocks()])
+    return [0, len(film.tracks), film.scale, len(film.clusters), frames]
 
 
 def track(k, most, file):
@@ -29,6 +30,29 @@ def track(k, most, file):
         found.number, found.lasting_number, found.kind, picture.width, picture.height, found.channels,
     ]
     return tell(numbers, file[found.codec.start:found.codec.end], most)
+
+
+def frame(k, most, file):
+    """The k-th frame in the file's order, from 0: four numbers and its bytes."""
+    film = film_or_none(file)
+    if film is None:
+        return [FILE_NOT_RIGHT]
+    if k < 0:
+        return [NOT_THERE]
+    ahead = 0
+    for block in film.blocks():
+        if k < ahead + len(block.lengths):
+            return tell_frame(block, k - ahead, most, file)
+        ahead += len(block.lengths)
+    return [NOT_THERE]
+
+
+def tell_frame(block, place, most, file):
+    """The frame that has so many frames ahead of it in its block."""
+    length = block.lengths[place]
+    start = block.start + sum(block.lengths[:place])
+    numbers = [block.track_number, block.time, 1 if block.is_key else 0, length]
+    return tell(numbers, file[start:start + length], most)
 
 
 def film_or_none(file):

@@ -1,6 +1,6 @@
 """A whole file."""
 
-from strictfilm.clusters import count_cluster_frames
+from strictfilm.clusters import read_cluster
 from strictfilm.contents import Contents
 from strictfilm.contents import GREATEST_NUMBER
 from strictfilm.contents import check_before
@@ -20,12 +20,19 @@ USUAL_SCALE = 1000000
 
 
 class Film:
-    """What a right file holds: its tracks by their numbers, the scale, and how many frames each cluster has."""
+    """What a right file holds: its tracks by their numbers, the scale, and the blocks of each cluster."""
 
-    def __init__(self, tracks, scale, cluster_frames):
+    def __init__(self, tracks, scale, clusters):
         self.tracks = tracks
         self.scale = scale
-        self.cluster_frames = cluster_frames
+        self.clusters = clusters
+
+    def blocks(self):
+        """All blocks, in the file's order."""
+        found = []
+        for cluster in self.clusters:
+            found.extend(cluster)
+        return found
 
 
 def read_film(file):
@@ -44,7 +51,7 @@ def read_body(file, body):
     clusters = contents.all_named((CLUSTER,))
     check_before(contents.once(TRACKS), clusters)
     tracks = read_tracks(file, contents.once(TRACKS))
-    return Film(tracks, scale, [count_cluster_frames(file, cluster, tracks) for cluster in clusters])
+    return Film(tracks, scale, [read_cluster(file, cluster, tracks) for cluster in clusters])
 
 
 def read_scale(file, about):

@@ -5,6 +5,7 @@ import unittest
 from strictfilm import films
 
 LEAST, GREATEST = -2 ** 31, 2 ** 31 - 1
+BY_SUMS, BY_EQUAL_PARTS, BY_DIFFERENCES = 2, 4, 6
 
 HEADER, BODY, ABOUT, TRACKS, CLUSTER = 0x1A45DFA3, 0x18538067, 0x1549A966, 0x1654AE6B, 0x1F43B675
 
@@ -18,6 +19,11 @@ def coded(value, size=None):
 
 def unknown(size):
     return coded(2 ** (7 * size) - 1, size)
+
+
+def difference(value, size=1):
+    """A difference between the lengths of two frames."""
+    return coded(value + 2 ** (7 * size - 1) - 1, size)
 
 
 def raw_name(name):
@@ -90,6 +96,11 @@ def group(flags, *rest, **where):
     return element(0xA0, element(0xA1, block_body(flags, *rest, **where)))
 
 
+def referring(flags, *rest, **where):
+    """A group with FB, so that it is not key."""
+    return element(0xA0, element(0xA1, block_body(flags, *rest, **where)), element(0xFB, b"\1"))
+
+
 def body_parts(clusters=b"", tracks=None, about=b""):
     return Parts({
         ABOUT: element(ABOUT, about),
@@ -121,9 +132,13 @@ def plentiful():
         + element(0xAE, track_parts(200).but(0x83, number(0x83, 2)).but(0xE1, element(0xE1)).bytes())
     )
     clusters = (
-        cluster(block(0, b"one"), group(2, b"\1\1", b"ab"), time=7)
+        cluster(block(0x80, b"one"), group(BY_SUMS, b"\1\1", b"de", offset=-8), time=7)
         + cluster(time=8)
-        + cluster(block(4, b"\3", b"abcd", track_number=200), block(6, b"\2\x81\xbf", b"abc", track_number=2), time=9)
+        + cluster(
+            block(BY_EQUAL_PARTS, b"\3", b"abcdefgh", track_number=200),
+            referring(BY_DIFFERENCES, b"\2", coded(1), difference(1), b"abcdef", track_number=2, offset=5),
+            time=9,
+        )
     )
     return film(body_parts(clusters, tracks, number(0x2AD7B1, 1234567)))
 
@@ -165,6 +180,7 @@ class FilmTest(unittest.TestCase):
         """The file is not right, for every call."""
         self.assertEqual(films.look(file), [-1])
         self.assertEqual(films.track(0, GREATEST, file), [-1])
+        self.assertEqual(films.frame(0, GREATEST, file), [-1])
 
     def frames(self, count, *blocks):
         self.right(film_of_blocks(*blocks), 1, 1000000, 1, count)

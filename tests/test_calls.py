@@ -18,6 +18,11 @@ ASKED = [
     (films.track, (3, GREATEST)),
     (films.track, (LEAST, LEAST)),
     (films.track, (0, 5)),
+    (films.frame, (0, GREATEST)),
+    (films.frame, (9, 3)),
+    (films.frame, (10, GREATEST)),
+    (films.frame, (LEAST, LEAST)),
+    (films.frame, (0, 2)),
 ]
 
 
@@ -38,7 +43,7 @@ def answers():
 class CallsTest(unittest.TestCase):
 
     def test_names_and_order_of_arguments(self):
-        told = {films.look: ["file"], films.track: ["k", "most", "file"]}
+        told = {films.look: ["file"], films.track: ["k", "most", "file"], films.frame: ["k", "most", "file"]}
         for call, names in told.items():
             self.assertEqual(list(inspect.signature(call).parameters), names)
 

@@ -1,12 +1,6 @@
 """What the document says of the lacing of a block."""
 
-from tests.builder import FilmTest, block, coded, group, unknown
-
-BY_SUMS, BY_EQUAL_PARTS, BY_DIFFERENCES = 2, 4, 6
-
-
-def difference(value, size=1):
-    return coded(value + 2 ** (7 * size - 1) - 1, size)
+from tests.builder import BY_DIFFERENCES, BY_EQUAL_PARTS, BY_SUMS, FilmTest, block, coded, difference, group, unknown
 
 
 class LacingTest(FilmTest):

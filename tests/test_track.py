@@ -1,9 +1,8 @@
 """What track answers."""
 
-from strictfilm.films import look, track
+from strictfilm.films import track
 from tests.builder import (
-    GREATEST, LEAST, FilmTest, block, body_parts, cluster, element, film, film_of_track, number, plentiful,
-    track_parts,
+    GREATEST, LEAST, FilmTest, block, body_parts, cluster, element, film, film_of_track, number, track_parts,
 )
 
 
@@ -178,10 +177,3 @@ class WrongFileTest(TrackCallTest):
     def test_a_fault_of_another_track(self):
         wrong = element(0xAE, track_parts(2).but(0x86, codec(b"A\x7f")).bytes())
         self.refused(film(body_parts(tracks=element(0xAE, track_parts(1).bytes()) + wrong)))
-
-
-class LookTest(FilmTest):
-
-    def test_look_answers_as_before(self):
-        self.assertEqual(look(plentiful()), [0, 3, 1234567, 3, 10])
-        self.assertEqual(look(three_tracks()), [0, 3, 1000000, 0, 0])
