@@ -55,6 +55,20 @@ def tell_frame(block, place, most, file):
     return tell(numbers, file[start:start + length], most)
 
 
+def find(track, time, file):
+    """Which frame, from 0, is the last key one of the track whose time isn't above."""
+    film = film_or_none(file)
+    if film is None:
+        return [FILE_NOT_RIGHT]
+    found = NOT_THERE
+    frames = 0
+    for block in film.blocks():
+        frames += len(block.lengths)
+        if block.is_key and block.track_number == track and block.time <= time:
+            found = frames - 1
+    return [found]
+
+
 def film_or_none(file):
     try:
         return read_film(file)

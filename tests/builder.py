@@ -5,6 +5,7 @@ import unittest
 from strictfilm import films
 
 LEAST, GREATEST = -2 ** 31, 2 ** 31 - 1
+EARLIEST, LATEST = -2 ** 63, 2 ** 63 - 1
 BY_SUMS, BY_EQUAL_PARTS, BY_DIFFERENCES = 2, 4, 6
 
 HEADER, BODY, ABOUT, TRACKS, CLUSTER = 0x1A45DFA3, 0x18538067, 0x1549A966, 0x1654AE6B, 0x1F43B675
@@ -181,6 +182,7 @@ class FilmTest(unittest.TestCase):
         self.assertEqual(films.look(file), [-1])
         self.assertEqual(films.track(0, GREATEST, file), [-1])
         self.assertEqual(films.frame(0, GREATEST, file), [-1])
+        self.assertEqual(films.find(1, LATEST, file), [-1])
 
     def frames(self, count, *blocks):
         self.right(film_of_blocks(*blocks), 1, 1000000, 1, count)

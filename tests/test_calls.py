@@ -6,7 +6,7 @@ import io
 import unittest
 
 from strictfilm import films
-from tests.builder import GREATEST, LEAST, film, plentiful
+from tests.builder import EARLIEST, GREATEST, LATEST, LEAST, film, plentiful
 
 RIGHT = plentiful()
 WRONG = RIGHT[:-1]
@@ -23,6 +23,10 @@ ASKED = [
     (films.frame, (10, GREATEST)),
     (films.frame, (LEAST, LEAST)),
     (films.frame, (0, 2)),
+    (films.find, (1, LATEST)),
+    (films.find, (1, -1)),
+    (films.find, (200, LATEST)),
+    (films.find, (LEAST, EARLIEST)),
 ]
 
 
@@ -43,7 +47,12 @@ def answers():
 class CallsTest(unittest.TestCase):
 
     def test_names_and_order_of_arguments(self):
-        told = {films.look: ["file"], films.track: ["k", "most", "file"], films.frame: ["k", "most", "file"]}
+        told = {
+            films.look: ["file"],
+            films.track: ["k", "most", "file"],
+            films.frame: ["k", "most", "file"],
+            films.find: ["track", "time", "file"],
+        }
         for call, names in told.items():
             self.assertEqual(list(inspect.signature(call).parameters), names)
 
